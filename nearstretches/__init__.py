@@ -1,0 +1,1 @@
+"""Nearness: the least stretches of a text that answer a question."""
