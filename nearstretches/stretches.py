@@ -4,7 +4,11 @@ A question's stretches are a list of least ones in order: the begins rise, and t
 The joins below count on this of what they are handed, and hold to it in what they give back.
 """
 
-from nearstretches.callnumbers import AROUND, BOTH, EITHER, INSIDE, NEXT, ORDER
+from nearstretches.callnumbers import APART, AROUND, BOTH, EITHER, INSIDE, NEXT, ORDER, WITHIN, WITHOUT
+
+
+def width(stretch):
+    return stretch[1] - stretch[0] + 1
 
 
 def lies_in(inner, outer):
@@ -109,6 +113,14 @@ def apart_of(left, right):
     return [stretch for stretch in left if not meets_some(stretch, right)]
 
 
+def without_of(left, right):
+    return [stretch for stretch in left if not holds_some(stretch, right)]
+
+
+def outside_of(left, right):
+    return [stretch for stretch in left if not lies_in_some(stretch, right)]
+
+
 def joined(kind, left, right):
     """The stretches of a question of this kind, joined of two whose stretches are left and right."""
     if kind == EITHER:
@@ -123,4 +135,15 @@ def joined(kind, left, right):
         return inside_of(left, right)
     if kind == AROUND:
         return around_of(left, right)
-    return apart_of(left, right)
+    if kind == APART:
+        return apart_of(left, right)
+    if kind == WITHOUT:
+        return without_of(left, right)
+    return outside_of(left, right)
+
+
+def bounded(kind, stretches, bound):
+    """The stretches of a question of this kind, within or first, of one that has these."""
+    if kind == WITHIN:
+        return [stretch for stretch in stretches if width(stretch) <= bound]
+    return [stretch for stretch in stretches if stretch[1] <= bound]

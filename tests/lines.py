@@ -6,7 +6,11 @@ import functools
 from nearstretches.questions import answers
 
 HIGHEST = 4294967295
-JOINS = {"either": 4, "order": 5, "both": 6, "next": 7, "inside": 8, "around": 9, "apart": 10}
+MOST_CALLS = 40
+JOINS = {
+    "either": 4, "order": 5, "both": 6, "next": 7, "inside": 8, "around": 9, "apart": 10, "without": 11, "outside": 12,
+}
+BOUNDS = {"within": 13, "first": 14}
 
 
 def text(*words):
@@ -57,12 +61,61 @@ def apart(s, i, j):
     return join("apart", s, i, j)
 
 
+def without(s, i, j):
+    return join("without", s, i, j)
+
+
+def outside(s, i, j):
+    return join("outside", s, i, j)
+
+
+def bound(name, s, i, n):
+    return [BOUNDS[name], s, i, n]
+
+
+def within(s, i, n):
+    return bound("within", s, i, n)
+
+
+def first(s, i, n):
+    return bound("first", s, i, n)
+
+
+def row(s):
+    return [15, s]
+
+
+def at(s, p):
+    return [16, s, p]
+
+
+def worth(s):
+    return [17, s]
+
+
+def shows(s, a, b):
+    return [18, s, a, b]
+
+
+def best(s, n):
+    return [19, s, n]
+
+
+def alike(i, j):
+    return [20, i, j]
+
+
+def fits(s, a, b):
+    return [21, s, a, b]
+
+
 def line(calls):
     return [number for call in calls for number in call]
 
 
 def answered(*calls):
-    """What each call is answered, without the count ahead of it where it is one number."""
+    """What each call is answered, without the count ahead of it: a number, or a list where there are several."""
+    assert 1 <= len(calls) <= MOST_CALLS and len(line(calls)) <= 3000, calls
     told = answers(line(calls))
     rows = []
     start = 0
@@ -71,7 +124,26 @@ def answered(*calls):
         start += 1 + told[start]
     assert start == len(told), told
     assert len(rows) == len(calls), (rows, calls)
-    return [row[0] if len(row) == 1 else row for row in rows]
+    assert [] not in rows, rows
+    return [simple(numbers) for numbers in rows]
+
+
+def simple(numbers):
+    return numbers[0] if len(numbers) == 1 else numbers
+
+
+def last(*calls):
+    """What the last of the calls is answered."""
+    return answered(*calls)[-1]
+
+
+def asked_behind(laying, asking):
+    """What each of the asking calls is answered behind the laying ones, in as many lines as it takes."""
+    told = []
+    room = MOST_CALLS - len(laying)
+    for start in range(0, len(asking), room):
+        told += answered(*laying, *asking[start:start + room])[len(laying):]
+    return told
 
 
 def places(stretch):
@@ -110,23 +182,73 @@ def by_the_words(name, left, right):
         return [a for a in left if any(lies_in(b, a) for b in right)]
     if name == "apart":
         return [a for a in left if not any(touches(a, b) for b in right)]
+    if name == "without":
+        return [a for a in left if all(not lies_in(b, a) for b in right)]
+    if name == "outside":
+        return [a for a in left if all(not lies_in(a, b) for b in right)]
     raise KeyError(name)
 
 
+def bounded_by_the_words(name, stretches, n):
+    if name == "within":
+        return [a for a in stretches if len(places(a)) <= n]
+    if name == "first":
+        return [a for a in stretches if max(places(a)) <= n]
+    raise KeyError(name)
+
+
+def the_one(stretches):
+    assert len(stretches) == 1, stretches
+    return stretches[0]
+
+
 class PlainLine:
-    """A line of calls answered in the plainest way: a question is a tree that is asked anew each time."""
+    """A line of calls answered in the plainest way: a question is a tree, gone through for each text anew."""
 
     def __init__(self):
         self.words = []
         self.laid = {}
+        self.known = {}
 
     def stretches(self, question):
-        if question[0] == "word":
-            return [(k + 1, k + 1) for k, each in enumerate(self.words) if each == question[1]]
-        return by_the_words(question[0], self.stretches(question[1]), self.stretches(question[2]))
+        key = (question, tuple(self.words))
+        if key not in self.known:
+            self.known[key] = self.find(question)
+        return list(self.known[key])
+
+    def find(self, question):
+        name, left, right = question
+        if name == "word":
+            return [(k + 1, k + 1) for k, each in enumerate(self.words) if each == left]
+        if name in BOUNDS:
+            return bounded_by_the_words(name, self.stretches(left), right)
+        return by_the_words(name, self.stretches(left), self.stretches(right))
 
     def size(self, question):
-        return 1 if question[0] == "word" else self.size(question[1]) + self.size(question[2])
+        name, left, right = question
+        if name == "word":
+            return 1
+        return self.size(left) + (0 if name in BOUNDS else self.size(right))
+
+    def makes(self, question, stretch):
+        """The places that make the stretch, as a set."""
+        name, left, right = question
+        if name == "word":
+            return {stretch[0]}
+        if name == "either":
+            return self.makes(left if stretch in self.stretches(left) else right, stretch)
+        if name in ("order", "next"):
+            a = the_one([a for a in self.stretches(left) if a[0] == stretch[0]])
+            b = the_one([b for b in self.stretches(right) if b[1] == stretch[1]])
+            return self.makes(left, a) | self.makes(right, b)
+        if name == "both":
+            a = min(a for a in self.stretches(left) if lies_in(a, stretch))
+            b = min(b for b in self.stretches(right) if lies_in(b, stretch))
+            return self.makes(left, a) | self.makes(right, b)
+        if name == "around":
+            b = min(b for b in self.stretches(right) if lies_in(b, stretch))
+            return self.makes(left, stretch) | self.makes(right, b)
+        return self.makes(left, stretch)
 
     def take(self, words, refusal):
         if any(each < 1 or each > 30 for each in words[1]):
@@ -137,11 +259,19 @@ class PlainLine:
         return len(self.words)
 
     def lay(self, call):
-        names = {number: name for name, number in JOINS.items()}
-        if not 1 <= call[1] <= 20 or (call[0] == 3 and not 1 <= call[2] <= 30):
+        names = {number: name for name, number in [*JOINS.items(), *BOUNDS.items()]}
+        if not 1 <= call[1] <= 20:
             return -1
         if call[0] == 3:
-            question = ("word", call[2])
+            if not 1 <= call[2] <= 30:
+                return -1
+            question = ("word", call[2], None)
+        elif call[0] in BOUNDS.values():
+            if call[3] > 60:
+                return -1
+            if call[2] not in self.laid:
+                return -2
+            question = (names[call[0]], self.laid[call[2]], call[3])
         elif call[2] not in self.laid or call[3] not in self.laid:
             return -2
         else:
@@ -151,6 +281,32 @@ class PlainLine:
         self.laid[call[1]] = question
         return len(self.stretches(question))
 
+    def ask(self, call):
+        if call[1] not in self.laid or (call[0] == 20 and call[2] not in self.laid):
+            return -2
+        found = self.stretches(self.laid[call[1]])
+        if call[0] == 15:
+            return self.tell(found)
+        if call[0] == 16:
+            return self.tell([a for a in found if a[0] >= call[2]][:1])
+        if call[0] == 17:
+            return sum(5040 // len(places(a)) for a in found)
+        if call[0] == 18:
+            if (call[2], call[3]) not in found:
+                return -7
+            made = sorted(self.makes(self.laid[call[1]], (call[2], call[3])))
+            return [len(made), *made]
+        if call[0] == 19:
+            return self.tell(sorted(found, key=lambda a: (len(places(a)), a[0]))[:call[2]])
+        if call[0] == 20:
+            return int(found == self.stretches(self.laid[call[2]]))
+        if call[0] == 21:
+            return int(any(a[0] >= call[2] and a[1] <= call[3] for a in found))
+        raise KeyError(call[0])
+
+    def tell(self, stretches):
+        return simple([len(stretches), *(place for stretch in stretches for place in stretch)])
+
     def answer(self, call):
         if call[0] == 0:
             return self.take(([], call[2:]), -1)
@@ -159,9 +315,4 @@ class PlainLine:
         if call[0] == 2:
             self.words = self.words[:call[1]]
             return len(self.words)
-        return self.lay(call)
-
-
-def plainly_answered(calls):
-    plain = PlainLine()
-    return [plain.answer(call) for call in calls]
+        return self.lay(call) if call[0] < 15 else self.ask(call)

@@ -8,7 +8,8 @@ import unittest
 
 from nearstretches.questions import answers
 from tests.lines import (
-    HIGHEST, JOINS, add, answered, cut, either, inside, join, line, order, plainly_answered, text, word,
+    BOUNDS, HIGHEST, JOINS, PlainLine, add, alike, answered, at, best, bound, cut, either, first, fits, inside, join,
+    line, order, row, shows, text, within, word, worth,
 )
 
 
@@ -22,8 +23,14 @@ class OnlyRead(list):
     __setitem__ = __delitem__ = __iadd__ = __imul__ = refuse
 
 
-SAMPLE = line([text(5, 6, 5), word(1, 5), word(2, 6), order(3, 1, 2), add(6), either(4, 3, 3), cut(1), word(1, 31)])
-SAMPLE_ANSWERS = [1, 3, 1, 2, 1, 1, 1, 1, 1, 4, 1, 2, 1, 1, 1, -1]
+SAMPLE = line([
+    text(5, 6, 5), word(1, 5), word(2, 6), order(3, 1, 2), add(9, 6), within(4, 3, 3), row(4), at(3, 2), at(3, 4),
+    worth(3), shows(4, 3, 5), best(3, 1), alike(3, 4), fits(3, 2, 5), shows(4, 1, 1), row(9), cut(1), word(1, 31), row(3),
+])
+SAMPLE_ANSWERS = [
+    1, 3, 1, 2, 1, 1, 1, 1, 1, 5, 1, 2, 5, 2, 1, 2, 3, 5, 3, 1, 3, 5, 1, 0,
+    1, 4200, 3, 2, 3, 5, 3, 1, 1, 2, 1, 1, 1, 1, 1, -7, 1, -2, 1, 1, 1, -1, 1, 0,
+]
 
 
 class FormTest(unittest.TestCase):
@@ -35,6 +42,24 @@ class FormTest(unittest.TestCase):
         self.assertEqual(answers(calls), [1, 3, 1, 4, 1, 4, 1, 1, 1, 2, 1, 1])
         calls += [4, 4, 1, 2, 5, 5, 1, 3, 6, 6, 2, 3, 7, 7, 1, 2, 8, 8, 2, 5, 9, 9, 5, 2, 10, 10, 2, 5]
         self.assertEqual(answers(calls)[12:], [1, 3, 1, 1, 1, 2, 1, 1, 1, 1, 1, 1, 1, 1])
+
+    def test_later_calls_by_their_numbers(self):
+        # The text 5 6 7 6, the words 5, 6 and 7 as questions 1 to 3, and 5 with 7 behind it as question 4.
+        calls = [0, 4, 5, 6, 7, 6, 3, 1, 5, 3, 2, 6, 3, 3, 7, 5, 4, 1, 3]
+        for call, told in (
+            ([11, 5, 4, 2], [1, 0]), ([11, 5, 2, 4], [1, 2]), ([12, 5, 2, 4], [1, 1]), ([12, 5, 4, 2], [1, 1]),
+            ([13, 5, 4, 2], [1, 0]), ([13, 5, 4, 3], [1, 1]), ([14, 5, 2, 3], [1, 1]), ([14, 5, 2, 4], [1, 2]),
+            ([15, 2], [5, 2, 2, 2, 4, 4]), ([16, 2, 3], [3, 1, 4, 4]), ([16, 2, 5], [1, 0]), ([17, 4], [1, 1680]),
+            ([18, 4, 1, 3], [3, 2, 1, 3]), ([18, 4, 1, 2], [1, -7]), ([19, 2, 1], [3, 1, 2, 2]), ([20, 2, 2], [1, 1]),
+            ([20, 2, 3], [1, 0]), ([21, 4, 1, 3], [1, 1]), ([21, 4, 2, 3], [1, 0]),
+        ):
+            self.assertEqual(answers(calls + call)[10:], told, call)
+            self.assertEqual(answers(calls + call + call)[10:], told + told, call)
+
+    def test_no_number_but_a_refusal_is_below_0(self):
+        calls = [text(5), word(1, 5), row(1), at(1, HIGHEST), worth(1), best(1, 0), fits(1, 0, 0), shows(1, 1, 1)]
+        for told in answered(*calls):
+            self.assertGreaterEqual(min(told) if isinstance(told, list) else told, 0)
 
     def test_a_row_may_look_like_calls(self):
         self.assertEqual(answers([0, 5, 3, 1, 1, 2, 2, 1, 2, 3, 1, 3, 1, 1]), [1, 5, 1, 7, 1, 3])
@@ -83,17 +108,42 @@ class FunctionTest(unittest.TestCase):
             answers(list(SAMPLE))
         self.assertEqual(out.getvalue() + err.getvalue(), "")
 
-    def test_the_deepest_question_is_gone_through_by_loops(self):
-        calls = [text(*[1] * 60), word(1, 1), word(2, 1)] + [inside(1, 1, 2)] * 36 + [cut(50)]
+    def answered_with_few_frames(self, calls):
+        """What is answered if the program has room for only a few calls within one another."""
         self.assertEqual(len(calls), 40)
-        deep = len(_frames()) + 25
         before = sys.getrecursionlimit()
         try:
-            sys.setrecursionlimit(deep)
-            told = answers(line(calls))
+            sys.setrecursionlimit(len(_frames()) + 25)
+            return answered(*calls)
         finally:
             sys.setrecursionlimit(before)
-        self.assertEqual(told, [1, 60] * 39 + [1, 50])
+
+    def test_the_deepest_question_is_gone_through_by_loops(self):
+        calls = [text(*[1] * 60), word(1, 1), word(2, 1)] + [inside(1, 1, 2)] * 36 + [cut(50)]
+        self.assertEqual(self.answered_with_few_frames(calls), [60] * 39 + [50])
+
+    def test_the_longest_chain(self):
+        for chained in (within(1, 1, 60), first(1, 1, 60)):
+            calls = [word(1, 1)] + [chained] * 39
+            self.assertEqual(self.answered_with_few_frames(calls), [0] * 40)
+
+    def test_the_longest_chain_that_can_be_asked_about_a_text(self):
+        for chained in (within(1, 1, 60), first(1, 1, 60)):
+            for asked, told in ((shows(1, 60, 60), [1, 60]), (best(1, 1), [1, 1, 1]), (worth(1), 60 * 5040), (cut(7), 7)):
+                calls = [text(*[1] * 60), word(1, 1)] + [chained] * 37 + [asked]
+                self.assertEqual(self.answered_with_few_frames(calls), [60] * 39 + [told])
+
+    def test_the_longest_chains_of_joins(self):
+        for name, many in (("around", 1), ("both", 1), ("either", 1), ("order", 37), ("next", 37)):
+            calls = [text(*[1] * 60), word(1, 1), word(2, 1)] + [join(name, 1, 1, 2)] * 36
+            told = self.answered_with_few_frames(calls + [shows(1, 1, many)])[-1]
+            self.assertEqual(told, [many] + list(range(1, many + 1)), name)
+
+    def test_as_many_words_as_a_question_can_have(self):
+        for name in ("either", "both", "around", "inside"):
+            calls = [text(*[1] * 60), word(1, 1)] + [join(name, 1, 1, 1)] * 6
+            calls += [first(1, 1, 60)] * 31 + [shows(1, 60, 60)]
+            self.assertEqual(self.answered_with_few_frames(calls)[-1], [1, 60], name)
 
 
 def _frames():
@@ -117,8 +167,8 @@ class ManyLinesTest(unittest.TestCase):
             words.append(source.choice((0, 31, HIGHEST)))
         return words
 
-    def call(self, source, kinds, numbers):
-        way = source.randrange(14)
+    def call(self, source, kinds, numbers, plain):
+        way = source.randrange(28)
         if way == 0:
             return text(*self.words(source, kinds, 61))
         if way == 1:
@@ -127,28 +177,39 @@ class ManyLinesTest(unittest.TestCase):
             return cut(source.choice((0, 3, 20, 40, 60, HIGHEST)))
         if way < 5:
             return word(min(self.number(source, 20), numbers), source.randint(1, kinds))
+        if way >= 13:
+            return self.ask(source, numbers, plain)
         s = source.choice((source.randint(1, numbers), self.number(source, 20)))
+        if way >= 10:
+            n = source.choice((0, 1, 2, 3, 5, 8, 20, 40, 60, 61, HIGHEST))
+            return bound(source.choice(list(BOUNDS)), s, source.randint(1, numbers), n)
         return join(source.choice(list(JOINS)), s, source.randint(1, numbers), source.randint(1, numbers))
+
+    def ask(self, source, numbers, plain):
+        s = source.choice((source.randint(1, numbers), source.randint(1, numbers), self.number(source, 20)))
+        places = [source.choice((0, 1, 2, source.randint(1, 61), HIGHEST)) for _ in range(2)]
+        found = plain.stretches(plain.laid[s]) if s in plain.laid else []
+        if found and source.randrange(4):
+            places = list(source.choice(found))
+            if source.randrange(6) == 0:
+                places[source.randrange(2)] += source.choice((-1, 1))
+        return source.choice((
+            row(s), at(s, places[0]), worth(s), shows(s, *places), shows(s, *places), best(s, places[0] % 9),
+            alike(s, source.randint(1, numbers)), fits(s, *places),
+        ))
 
     def test_lines(self):
         source = random.Random(20)
-        for _ in range(400):
+        for _ in range(1500):
             kinds, numbers = source.choice((2, 3, 5, 30)), source.choice((3, 5, 8))
             calls = [text(*self.words(source, kinds, 60))]
             calls += [word(s, source.randint(1, kinds)) for s in range(1, numbers + 1)]
-            calls += [self.call(source, kinds, numbers) for _ in range(40 - len(calls))]
-            self.assertEqual(answered(*calls), plainly_answered(calls), calls)
-
-    def test_brackets_do_not_matter(self):
-        source = random.Random(21)
-        for name in ("either", "order", "both", "next"):
-            for _ in range(60):
-                calls = [text(*self.words(source, 4, 40)), word(1, 1), word(2, 2), word(3, 3)]
-                calls += [join(name, 4, 1, 2), join(name, 5, 4, 3), join(name, 6, 2, 3), join(name, 7, 1, 6)]
-                # Least stretches that all lie in those of the other, both ways, are the same.
-                calls += [inside(8, 5, 7), inside(9, 7, 5)]
-                told = answered(*calls)
-                self.assertEqual({told[5], told[7], told[8], told[9]}, {told[5]}, calls)
+            plain = PlainLine()
+            told = [plain.answer(call) for call in calls]
+            while len(calls) < 40:
+                calls.append(self.call(source, kinds, numbers, plain))
+                told.append(plain.answer(calls[-1]))
+            self.assertEqual(answered(*calls), told, calls)
 
 
 if __name__ == "__main__":

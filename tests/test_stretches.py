@@ -3,9 +3,9 @@
 import itertools
 import unittest
 
-from nearstretches.callnumbers import APART, AROUND, BOTH, EITHER, INSIDE, NEXT, ORDER
-from nearstretches.stretches import joined, least, places_of_word
-from tests.lines import JOINS, by_the_words, lies_in
+from nearstretches.callnumbers import APART, AROUND, BOTH, EITHER, INSIDE, NEXT, ORDER, OUTSIDE, WITHOUT
+from nearstretches.stretches import bounded, joined, least, places_of_word
+from tests.lines import BOUNDS, JOINS, bounded_by_the_words, by_the_words, lies_in
 from tests.lines import least as plainly_least
 
 PLACES = 5
@@ -72,11 +72,26 @@ class JoinedTest(unittest.TestCase):
     def test_apart(self):
         self.assertEqual(joined(APART, [(1, 2), (3, 4), (6, 6), (7, 9)], [(2, 2), (5, 6)]), [(3, 4), (7, 9)])
 
+    def test_without(self):
+        self.assertEqual(joined(WITHOUT, [(1, 2), (3, 5), (4, 6)], [(1, 2), (3, 4)]), [(4, 6)])
+
+    def test_outside(self):
+        self.assertEqual(joined(OUTSIDE, [(1, 2), (3, 3), (4, 6)], [(1, 2), (3, 5)]), [(4, 6)])
+
     def test_what_is_joined_stays_as_it_was(self):
         for kind in JOINS.values():
             left, right = [(1, 2), (3, 5)], [(2, 2), (4, 6)]
             joined(kind, left, right)
             self.assertEqual((left, right), ([(1, 2), (3, 5)], [(2, 2), (4, 6)]))
+
+
+class BoundedTest(unittest.TestCase):
+    def test_every_row_and_bound(self):
+        for name, kind in BOUNDS.items():
+            for row, n in itertools.product(rows_of_least(PLACES), range(PLACES + 2)):
+                handed = list(row)
+                self.assertEqual(bounded(kind, handed, n), bounded_by_the_words(name, row, n), (name, row, n))
+                self.assertEqual(handed, row)
 
 
 if __name__ == "__main__":
